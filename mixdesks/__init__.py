@@ -1,0 +1,1 @@
+"""Mixhall: desks, who's heard, evened out. The calls are in mixdesks.hall."""

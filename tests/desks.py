@@ -1,0 +1,109 @@
+"""Desks for the tests, and a test case that watches what every call must keep to."""
+
+import copy
+import unittest
+
+MOST_NUMBER = 18446744073709551615
+
+FULL = (
+    "in voice\n"
+    "in drum\n"
+    "group band\n"
+    "bus room\n"
+    "out left\n"
+    "in spare\n"
+    "bus hall\n"
+    "group all\n"
+    "out right\n"
+    "safe room\n"
+    "late drum 7\n"
+    "member band drum\n"
+    "send voice room 16384 pre\n"
+    "send voice left 0 post\n"
+    "member all room\n"
+    "send room left 65535 post\n"
+    "late room 63\n"
+    "safe right\n"
+    "send hall right 1 pre\n"
+    "member all drum\n"
+    "late left 1\n"
+)
+
+KIND_WORDS = ("in", "bus", "out", "group")
+OTHER_WORDS = ("safe", "late", "member", "send", "pre", "post")
+
+
+def as_bytes(text):
+    return list(text.encode("latin-1"))
+
+
+def split_mark(marked):
+    """The bytes of a text without its one sign ^, and the place where that stood."""
+    assert marked.count("^") == 1, marked
+    return as_bytes(marked.replace("^", "")), marked.index("^")
+
+
+def letter_name(first, number, length):
+    """A name of that many letters; others for other firsts or, from 0 to 25, numbers."""
+    return (first + chr(ord("a") + number)).ljust(length, "x")
+
+
+def whole_desk(length=16):
+    """The node lines of a desk with as many nodes of each kind as there may be, and their names by kind."""
+    names = {
+        kind: [letter_name(first, number, length) for number in range(most)]
+        for kind, first, most in (("in", "i", 8), ("bus", "b", 8), ("out", "o", 4), ("group", "g", 4))
+    }
+    lines = [f"{kind} {name}\n" for kind in names for name in names[kind]]
+    return "".join(lines), names
+
+
+def text_of_length(length):
+    """A desk's text of that many bytes, around 4,096: all nodes, 48 sends, members as they fit, gains as wide."""
+    nodes, names = whole_desk()
+    pairs = [(a, b) for a in names["in"] for b in names["bus"]][:48]
+    plain_sends = [f"send {a} {b} 1 pre\n" for a, b in pairs]
+    members = [f"member {g} {x}\n" for g in names["group"] for x in names["in"] + names["bus"]]
+    left = length - len(nodes) - len("".join(plain_sends))
+    fitting = members[: left // len(members[0])]
+    left -= len("".join(fitting))
+    sends = []
+    for a, b in pairs:
+        more = min(left, 4)
+        left -= more
+        sends.append(f"send {a} {b} {'1' * (1 + more)} pre\n")
+    text = nodes + "".join(sends) + "".join(fitting)
+    assert left == 0 and len(text) == length
+    return text
+
+
+class HallCase(unittest.TestCase):
+    def answer(self, function, *handed):
+        """The call's answer, after checks that hold for every call."""
+        before = copy.deepcopy(handed)
+        first = function(*handed)
+        self.assertEqual(before, handed, "what was handed in has changed")
+        self.assertIs(type(first), list)
+        self.assertTrue(all(type(number) is int for number in first), first)
+        kept = list(first)
+        # What a caller does to an answer must not reach the next one.
+        first.append(-99)
+        self.assertEqual(before, handed, "the answer is part of what was handed in")
+        self.assertEqual(kept, function(*handed), "a second call answers otherwise")
+        return kept
+
+    def check_text_refusals(self, call, more):
+        """That -2 goes before -6, and both before what else the call may refuse; call is handed the text."""
+        for text, wanted in (
+            (text_of_length(4097), [-2, 0, 0]),
+            ("?" * 4097, [-2, 0, 0]),
+            ("\n" * 4200, [-2, 0, 0]),
+            ("?" * 4096, [-6, 0, 2, 1, 0]),
+            ("in a\nin b", [-6, 0, 2, 1, 9]),
+            ("in a\nlate a 64\n", [-6, 0, 2, 2, 12]),
+            ("in a\nin a\n", [-6, 0, 2, 3, 8]),
+            ("".join(f"out {letter_name('o', k, 2)}\n" for k in range(5)), [-6, 0, 2, 4, 28]),
+        ):
+            for handed in more:
+                with self.subTest(text=text[:40], length=len(text), handed=handed):
+                    self.assertEqual(wanted, call(as_bytes(text), handed))
