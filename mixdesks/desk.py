@@ -35,3 +35,7 @@ class Desk:
             if told.sender == sender and told.target == target:
                 return True
         return False
+
+    # The nodes that node i sends to, the least number first.
+    def targets_of(self, i):
+        return sorted([told.target for told in self.sends if told.sender == i])

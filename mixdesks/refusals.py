@@ -12,6 +12,11 @@ class TooLong(Refusal):
         Refusal.__init__(self, -2, [])
 
 
+class Unfit(Refusal):
+    def __init__(self):
+        Refusal.__init__(self, -1, [])
+
+
 class Missing(Refusal):
     def __init__(self):
         Refusal.__init__(self, -4, [])

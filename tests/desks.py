@@ -77,6 +77,21 @@ def text_of_length(length):
     return text
 
 
+def crowded_desk():
+    """A desk of 8 ins (0 to 7), 8 buses (8 to 15), 4 outs (16 to 19) and 48 sends, the last sender's first.
+
+    In 0 and the buses send to each later bus, and to out 16; of the rest there are few sends.
+    """
+    nodes, names = whole_desk(2)
+    nodes = "".join(line for line in nodes.splitlines(keepends=True) if not line.startswith("group"))
+    called = names["in"] + names["bus"] + names["out"]
+    row = [0, *range(8, 17)]
+    pairs = [(a, b) for a in row for b in row if a < b] + [(1, 8), (7, 15), (15, 19)]
+    assert len(pairs) == 48
+    sends = [f"send {called[a]} {called[b]} {7 * b} pre\n" for a, b in sorted(pairs, reverse=True)]
+    return nodes + "".join(sends)
+
+
 class HallCase(unittest.TestCase):
     def answer(self, function, *handed):
         """The call's answer, after checks that hold for every call."""
