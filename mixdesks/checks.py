@@ -1,6 +1,8 @@
 """What several calls refuse in the same way; a call makes its checks in the order in which it tells its refusals."""
 
-from mixdesks.refusals import Missing, Unfit
+from mixdesks.refusals import Missing, Unfit, WrongCount
+from mixdesks.samples import MOST_GAIN
+from mixdesks.switches import MOST_SWITCH
 
 
 def check_node(desk, i):
@@ -11,4 +13,14 @@ def check_node(desk, i):
 # A node that there isn't passes: that is another refusal, which some calls tell later than this one.
 def check_kind(desk, i, kinds):
     if i < len(desk.kinds) and desk.kinds[i] not in kinds:
+        raise Unfit()
+
+
+def check_counts(desk, s, g):
+    if len(s) != len(desk.kinds) or len(g) != len(desk.kinds):
+        raise WrongCount()
+
+
+def check_bounds(s, g):
+    if any([switch > MOST_SWITCH for switch in s]) or any([fader > MOST_GAIN for fader in g]):
         raise Unfit()

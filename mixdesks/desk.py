@@ -39,3 +39,7 @@ class Desk:
     # The nodes that node i sends to, the least number first.
     def targets_of(self, i):
         return sorted([told.target for told in self.sends if told.sender == i])
+
+    # The groups that node i is a member of, the least number first.
+    def groups_of(self, i):
+        return sorted([pair[0] for pair in self.members if pair[1] == i])

@@ -1,10 +1,9 @@
 """The calls: each reads its desk's text anew and gives back its answer as one list of whole numbers."""
 
-from mixdesks.checks import check_kind, check_node
-from mixdesks.desk import BUS, GROUP, IN, OUT
 from mixdesks.reading import read_desk
-from mixdesks.refusals import Missing, Refusal
-from mixdesks.routes import all_ways
+from mixdesks.refusals import Refusal
+from mixdesks.telling import answer, tell_counts, tell_member, tell_name, tell_node, tell_number, tell_send
+from mixdesks.telling import tell_gain, tell_heard, tell_live, tell_mix, tell_way, tell_ways
 
 
 # How many ins, buses, outs, groups and sends the desk has.
@@ -71,67 +70,37 @@ def way(a, b, k, t):
         return refused(e)
 
 
-def tell_counts(desk):
-    counts = [desk.kinds.count(kind) for kind in (IN, BUS, OUT, GROUP)]
-    return answer(0, [], counts + [len(desk.sends)])
+# Whether x is live; why it isn't, and by which group.
+def live(x, t, s, g):
+    try:
+        return tell_live(read_desk(t), s, g, x)
+    except Refusal as e:
+        return refused(e)
 
 
-def tell_number(desk, called):
-    if called not in desk.names:
-        raise Missing()
-    return answer(desk.names.index(called), [], [])
+# The whole gain of x.
+def gain(x, t, s, g):
+    try:
+        return tell_gain(read_desk(t), s, g, x)
+    except Refusal as e:
+        return refused(e)
 
 
-def tell_name(desk, i):
-    check_node(desk, i)
-    letters = desk.names[i]
-    return answer(len(letters), letters, [])
+# Whether in a is heard at out o.
+def heard(a, o, t, s, g):
+    try:
+        return tell_heard(read_desk(t), s, g, a, o)
+    except Refusal as e:
+        return refused(e)
 
 
-def tell_node(desk, i):
-    check_node(desk, i)
-    kind = desk.kinds[i]
-    before = desk.kinds[:i].count(kind)
-    return answer(0, [], [kind, before, desk.safe[i], desk.late[i]])
-
-
-def tell_send(desk, i):
-    if i >= len(desk.sends):
-        raise Missing()
-    told = desk.sends[i]
-    return answer(0, [], [told.sender, told.target, told.gain, told.pre])
-
-
-def tell_member(desk, group, i):
-    check_kind(desk, group, (GROUP,))
-    check_kind(desk, i, (IN, BUS, OUT))
-    check_node(desk, group)
-    check_node(desk, i)
-    return answer(1 if (group, i) in desk.members else 0, [], [])
-
-
-def tell_ways(desk, a, b):
-    return answer(len(checked_ways(desk, a, b)), [], [])
-
-
-def tell_way(desk, a, b, k):
-    found = checked_ways(desk, a, b)
-    if k >= len(found):
-        raise Missing()
-    return answer(len(found[k]), [], found[k])
-
-
-def checked_ways(desk, a, b):
-    check_kind(desk, a, (IN, BUS, OUT))
-    check_kind(desk, b, (IN, BUS, OUT))
-    check_node(desk, a)
-    check_node(desk, b)
-    return all_ways(desk, a, b)
+# Each node's sum, then what each gives, with these samples at the ins.
+def mix(t, s, g, ins):
+    try:
+        return tell_mix(read_desk(t), s, g, ins)
+    except Refusal as e:
+        return refused(e)
 
 
 def refused(refusal):
     return answer(refusal.number, [], refusal.told)
-
-
-def answer(number, told_bytes, told_numbers):
-    return [number, len(told_bytes)] + told_bytes + [len(told_numbers)] + told_numbers

@@ -2,6 +2,7 @@
 
 from mixdesks.desk import BUS, GROUP, IN, OUT, Desk, Send
 from mixdesks.refusals import Fault, TooLong
+from mixdesks.samples import MOST_GAIN
 
 MOST_BYTES = 4096
 LINE_END = 10
@@ -20,7 +21,6 @@ MOST_LETTERS = 16
 MOST_DIGITS = 5
 LEAST_LATE = 1
 MOST_LATE = 63
-MOST_GAIN = 65535
 
 WRONG_FORM = 1
 OUT_OF_BOUNDS = 2

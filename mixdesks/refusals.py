@@ -22,6 +22,11 @@ class Missing(Refusal):
         Refusal.__init__(self, -4, [])
 
 
+class WrongCount(Refusal):
+    def __init__(self):
+        Refusal.__init__(self, -5, [])
+
+
 class Fault(Refusal):
     def __init__(self, kind, place):
         Refusal.__init__(self, -6, [kind, place])

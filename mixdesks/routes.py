@@ -10,3 +10,25 @@ def all_ways(desk, start, end):
         for target in desk.targets_of(i):
             found[i].extend([[i] + rest for rest in found[target]])
     return found[start]
+
+
+# Marks stand by the nodes' numbers. A send goes to a later node, so by the senders' order (or the other way
+# round) a mark has come to a node before it is to go on from there.
+def spread_onward(sends, begun):
+    marks = list(begun)
+    for told in sorted(sends, key=sender_of):
+        if marks[told.sender]:
+            marks[told.target] = True
+    return marks
+
+
+def spread_back(sends, begun):
+    marks = list(begun)
+    for told in sorted(sends, key=sender_of, reverse=True):
+        if marks[told.target]:
+            marks[told.sender] = True
+    return marks
+
+
+def sender_of(told):
+    return told.sender

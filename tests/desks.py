@@ -4,6 +4,9 @@ import copy
 import unittest
 
 MOST_NUMBER = 18446744073709551615
+MOST_SIGNED = 9223372036854775807
+LEAST_SIGNED = -9223372036854775808
+UNIT = 16384
 
 FULL = (
     "in voice\n"
@@ -35,6 +38,13 @@ OTHER_WORDS = ("safe", "late", "member", "send", "pre", "post")
 
 def as_bytes(text):
     return list(text.encode("latin-1"))
+
+
+def numbers_by_name(text, usual, **given):
+    """A list of numbers, one for each node of the text: those given by the nodes' names, else the usual one."""
+    names = [line.split(" ")[1] for line in text.splitlines() if line.split(" ")[0] in KIND_WORDS]
+    assert set(given) <= set(names), given
+    return [given.get(called, usual) for called in names]
 
 
 def split_mark(marked):
@@ -122,3 +132,24 @@ class HallCase(unittest.TestCase):
             for handed in more:
                 with self.subTest(text=text[:40], length=len(text), handed=handed):
                     self.assertEqual(wanted, call(as_bytes(text), handed))
+
+    def check_setting_refusals(self, count, call, handed_sets, unfit_too=True):
+        """That switches and faders are refused before all else; call is handed them and one of the sets.
+
+        The call's text tells that many nodes, at least 1.
+        """
+        switches, faders = [3] * count, [65535] * count
+        uneven = [[], [0] * (count - 1), [0] * (count + 1), [0] * 40, [MOST_NUMBER] * (count + 1)]
+        bad_switches = [[*switches[1:], bad] for bad in (4, 5, 7, 8, 256, 2**63, MOST_NUMBER)]
+        bad_switches += [[4, *switches[1:]]]
+        bad_faders = [[*faders[1:], bad] for bad in (65536, 65537, 131072, 2**63, MOST_NUMBER)]
+        bad_faders += [[65536, *faders[1:]]]
+        cases = [(-5, wrong, g) for wrong in uneven for g in [faders, bad_faders[0], *uneven]]
+        cases += [(-5, s, wrong) for wrong in uneven for s in (switches, bad_switches[0])]
+        if unfit_too:
+            cases += [(-1, bad, g) for bad in bad_switches for g in (faders, bad_faders[0])]
+            cases += [(-1, switches, bad) for bad in bad_faders]
+        for wanted, s, g in cases:
+            for handed in handed_sets:
+                with self.subTest(s=s, g=g, handed=handed):
+                    self.assertEqual([wanted, 0, 0], call(s, g, handed))
