@@ -1,5 +1,6 @@
 """What several calls refuse in the same way; a call makes its checks in the order in which it tells its refusals."""
 
+from mixdesks.desk import BUS, IN, OUT
 from mixdesks.refusals import Missing, Unfit, WrongCount
 from mixdesks.samples import MOST_GAIN
 from mixdesks.switches import MOST_SWITCH
@@ -14,6 +15,21 @@ def check_node(desk, i):
 def check_kind(desk, i, kinds):
     if i < len(desk.kinds) and desk.kinds[i] not in kinds:
         raise Unfit()
+
+
+def check_sounding(desk, x):
+    check_node(desk, x)
+    check_kind(desk, x, (IN, BUS, OUT))
+
+
+def check_send(desk, i):
+    if i >= len(desk.sends):
+        raise Missing()
+
+
+def check_settings(desk, s, g):
+    check_counts(desk, s, g)
+    check_bounds(s, g)
 
 
 def check_counts(desk, s, g):

@@ -3,7 +3,8 @@
 from mixdesks.reading import read_desk
 from mixdesks.refusals import Refusal
 from mixdesks.telling import answer, tell_counts, tell_member, tell_name, tell_node, tell_number, tell_send
-from mixdesks.telling import tell_gain, tell_heard, tell_live, tell_mix, tell_way, tell_ways
+from mixdesks.telling import tell_comes, tell_gain, tell_heard, tell_live, tell_loud, tell_mix, tell_wait, tell_way
+from mixdesks.telling import tell_ways, tell_whole
 
 
 # How many ins, buses, outs, groups and sends the desk has.
@@ -98,6 +99,38 @@ def heard(a, o, t, s, g):
 def mix(t, s, g, ins):
     try:
         return tell_mix(read_desk(t), s, g, ins)
+    except Refusal as e:
+        return refused(e)
+
+
+# Whether x can clip; its sum and what it gives with all ins at the most, then with all at the least.
+def loud(x, t, s, g):
+    try:
+        return tell_loud(read_desk(t), s, g, x)
+    except Refusal as e:
+        return refused(e)
+
+
+# The whole delay.
+def whole(t):
+    try:
+        return tell_whole(read_desk(t))
+    except Refusal as e:
+        return refused(e)
+
+
+# When it comes to x.
+def comes(x, t):
+    try:
+        return tell_comes(read_desk(t), x)
+    except Refusal as e:
+        return refused(e)
+
+
+# The wait of the i-th send.
+def wait(i, t):
+    try:
+        return tell_wait(read_desk(t), i)
     except Refusal as e:
         return refused(e)
 

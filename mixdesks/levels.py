@@ -2,7 +2,7 @@
 
 from mixdesks.desk import IN
 from mixdesks.routes import spread_onward
-from mixdesks.samples import held, rounded
+from mixdesks.samples import LEAST_SAMPLE, MOST_SAMPLE, held, rounded
 
 
 # Sums and what is given stand by the nodes' numbers, before they are held.
@@ -36,6 +36,15 @@ def sum_sent(setup, levels, i):
             level = levels.sums[told.sender] if told.pre == 1 else levels.given[told.sender]
             total += held(level) * told.gain
     return total
+
+
+# Node x's sum and what it gives, before they are held, with all ins at the most, then with all at the least.
+# No gain is below 0, so no other samples bring more or less.
+def extreme_levels(setup, x):
+    ins = setup.desk.kinds.count(IN)
+    most = find_levels(setup, [MOST_SAMPLE] * ins)
+    least = find_levels(setup, [LEAST_SAMPLE] * ins)
+    return [most.sums[x], most.given[x], least.sums[x], least.given[x]]
 
 
 def is_heard(setup, a, o):

@@ -1,8 +1,10 @@
 """What each call tells of a desk that has been read, with its refusals in the order told at the call."""
 
-from mixdesks.checks import check_bounds, check_counts, check_kind, check_node
+from mixdesks.checks import check_bounds, check_counts, check_kind, check_node, check_send, check_settings
+from mixdesks.checks import check_sounding
+from mixdesks.delays import Timing, wait_of, whole_delay
 from mixdesks.desk import BUS, GROUP, IN, OUT
-from mixdesks.levels import find_levels, is_heard
+from mixdesks.levels import extreme_levels, find_levels, is_heard
 from mixdesks.refusals import Missing, WrongCount
 from mixdesks.routes import all_ways
 from mixdesks.samples import held
@@ -34,8 +36,7 @@ def tell_node(desk, i):
 
 
 def tell_send(desk, i):
-    if i >= len(desk.sends):
-        raise Missing()
+    check_send(desk, i)
     told = desk.sends[i]
     return answer(0, [], [told.sender, told.target, told.gain, told.pre])
 
@@ -99,14 +100,33 @@ def tell_mix(desk, s, g, ins):
     return answer(len(desk.kinds), [], both)
 
 
-def check_settings(desk, s, g):
-    check_counts(desk, s, g)
-    check_bounds(s, g)
+def tell_loud(desk, s, g, x):
+    check_settings(desk, s, g)
+    check_sounding(desk, x)
+    four = extreme_levels(Setup(desk, s, g), x)
+    clips = any([held(level) != level for level in four])
+    return answer(1 if clips else 0, [], four)
 
 
-def check_sounding(desk, x):
-    check_node(desk, x)
-    check_kind(desk, x, (IN, BUS, OUT))
+def tell_whole(desk):
+    return answer(whole_delay(Timing(desk)), [], [])
+
+
+def tell_comes(desk, x):
+    return answer(checked_timing(desk, x).comes[x], [], [])
+
+
+def checked_timing(desk, x):
+    check_sounding(desk, x)
+    timing = Timing(desk)
+    if not timing.fed[x]:
+        raise Missing()
+    return timing
+
+
+def tell_wait(desk, i):
+    check_send(desk, i)
+    return answer(wait_of(Timing(desk), desk.sends[i]), [], [])
 
 
 def answer(number, told_bytes, told_numbers):

@@ -2,7 +2,7 @@
 
 from fractions import Fraction
 
-from tests.made import GROUP, IN
+from tests.made import GROUP, IN, OUT
 
 LEAST, MOST = -8388608, 8388607
 
@@ -82,6 +82,31 @@ class Reference:
             sums.append(hold(given[i]) if i in given else nearest(exact))
             gives.append(nearest(Fraction(hold(sums[i]) * self.gains[i], 16384)) if self.live[i] else 0)
         return sums, gives
+
+
+def ways_from_ins(made, x):
+    return [way for a in made.of_kinds(IN) for way in made.ways(a, x)]
+
+
+def bare_length(made, way):
+    """How long a way is without waits."""
+    return sum(made.late[i] for i in way[:-1])
+
+
+def longest(made, x):
+    """How long the longest way from an in to x is without waits; None if there's none."""
+    return max((bare_length(made, way) for way in ways_from_ins(made, x)), default=None)
+
+
+def wait_of(made, i):
+    sender, target, _, _ = made.sends[i]
+    comes = longest(made, sender)
+    return 0 if comes is None else longest(made, target) - comes - made.late[sender]
+
+
+def whole_delay(made):
+    outs = [o for o in made.of_kinds(OUT) if longest(made, o) is not None]
+    return max((longest(made, o) + made.late[o] for o in outs), default=0)
 
 
 def pick_settings(made, chance):
