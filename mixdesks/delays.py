@@ -1,7 +1,7 @@
 """When a sound comes to each node, and the waits that make all ways to a node equally long."""
 
 from mixdesks.desk import IN, OUT
-from mixdesks.routes import sender_of, spread_onward
+from mixdesks.routes import all_ways, sender_of, spread_onward
 
 
 # Whether a node is fed, and when it comes to it (0 if it isn't fed), stand by the nodes' numbers.
@@ -29,3 +29,30 @@ def wait_of(timing, told):
 def whole_delay(timing):
     outs = [i for i, kind in enumerate(timing.desk.kinds) if kind == OUT and timing.fed[i]]
     return max([timing.goes(i) for i in outs], default=0)
+
+
+def last_wait(timing, o):
+    if not timing.fed[o]:
+        return 0
+    return whole_delay(timing) - timing.goes(o)
+
+
+# How long a way is, its sends' waits counted.
+def length_with_waits(timing, nodes):
+    desk = timing.desk
+    sends = [desk.send_between(sender, target) for sender, target in zip(nodes, nodes[1:])]
+    return length_without_waits(desk, nodes) + sum([wait_of(timing, told) for told in sends])
+
+
+def length_without_waits(desk, nodes):
+    return sum([desk.late[i] for i in nodes[:-1]])
+
+
+# All ways from ins to x that are as long as it takes to come to x, in order; of a fed node there's at least one.
+def slow_ways(timing, x):
+    desk = timing.desk
+    found = []
+    for i, kind in enumerate(desk.kinds):
+        if kind == IN:
+            found.extend(all_ways(desk, i, x))
+    return [nodes for nodes in found if length_without_waits(desk, nodes) == timing.comes[x]]

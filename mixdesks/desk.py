@@ -30,11 +30,12 @@ class Desk:
         self.safe.append(0)
         self.late.append(0)
 
-    def has_send(self, sender, target):
+    # None if there is no such send.
+    def send_between(self, sender, target):
         for told in self.sends:
             if told.sender == sender and told.target == target:
-                return True
-        return False
+                return told
+        return None
 
     # The nodes that node i sends to, the least number first.
     def targets_of(self, i):

@@ -3,8 +3,8 @@
 from mixdesks.reading import read_desk
 from mixdesks.refusals import Refusal
 from mixdesks.telling import answer, tell_counts, tell_member, tell_name, tell_node, tell_number, tell_send
-from mixdesks.telling import tell_comes, tell_gain, tell_heard, tell_live, tell_loud, tell_mix, tell_wait, tell_way
-from mixdesks.telling import tell_ways, tell_whole
+from mixdesks.telling import tell_comes, tell_gain, tell_heard, tell_last, tell_live, tell_long, tell_loud, tell_mix
+from mixdesks.telling import tell_slow, tell_wait, tell_way, tell_ways, tell_whole
 
 
 # How many ins, buses, outs, groups and sends the desk has.
@@ -131,6 +131,30 @@ def comes(x, t):
 def wait(i, t):
     try:
         return tell_wait(read_desk(t), i)
+    except Refusal as e:
+        return refused(e)
+
+
+# The last wait of out o.
+def last(o, t):
+    try:
+        return tell_last(read_desk(t), o)
+    except Refusal as e:
+        return refused(e)
+
+
+# How long the way of these nodes is, with the waits.
+def long(t, nodes):
+    try:
+        return tell_long(read_desk(t), nodes)
+    except Refusal as e:
+        return refused(e)
+
+
+# The nodes of the first way from an in to x on which nothing waits.
+def slow(x, t):
+    try:
+        return tell_slow(read_desk(t), x)
     except Refusal as e:
         return refused(e)
 

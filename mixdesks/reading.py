@@ -132,7 +132,7 @@ def read_send(reader, desk):
         raise Fault(TOO_MANY, reader.word_place)
     sender = read_told_node(reader, desk, (IN, BUS))
     target = read_told_node(reader, desk, (BUS, OUT))
-    if target <= sender or desk.has_send(sender, target):
+    if target <= sender or desk.send_between(sender, target) is not None:
         raise Fault(WRONG_NAME, reader.word_place)
     gain = read_number(reader, 0, MOST_GAIN)
     desk.sends.append(Send(sender, target, gain, read_pre(reader)))

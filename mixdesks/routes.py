@@ -1,5 +1,7 @@
 """The ways from one node to another."""
 
+from mixdesks.desk import GROUP
+
 
 # All ways from start to end, in order. A desk's bounds let there be few enough to list them.
 def all_ways(desk, start, end):
@@ -10,6 +12,16 @@ def all_ways(desk, start, end):
         for target in desk.targets_of(i):
             found[i].extend([[i] + rest for rest in found[target]])
     return found[start]
+
+
+# The numbers may be any, of nodes that there aren't too.
+def is_way(desk, nodes):
+    if len(nodes) == 0:
+        return False
+    for i in nodes:
+        if i >= len(desk.kinds) or desk.kinds[i] == GROUP:
+            return False
+    return all([desk.send_between(sender, target) is not None for sender, target in zip(nodes, nodes[1:])])
 
 
 # Marks stand by the nodes' numbers. A send goes to a later node, so by the senders' order (or the other way

@@ -2,13 +2,13 @@
 
 from mixdesks.checks import check_bounds, check_counts, check_kind, check_node, check_send, check_settings
 from mixdesks.checks import check_sounding
-from mixdesks.delays import Timing, wait_of, whole_delay
+from mixdesks.delays import Timing, last_wait, length_with_waits, slow_ways, wait_of, whole_delay
 from mixdesks.desk import BUS, GROUP, IN, OUT
 from mixdesks.levels import extreme_levels, find_levels, is_heard
-from mixdesks.refusals import Missing, WrongCount
-from mixdesks.routes import all_ways
+from mixdesks.refusals import Missing, Unfit, WrongCount
+from mixdesks.routes import all_ways, is_way
 from mixdesks.samples import held
-from mixdesks.switches import Setup, whole_gain, why_silent
+from mixdesks.switches import LIVE, Setup, whole_gain, why_silent
 
 
 def tell_counts(desk):
@@ -72,7 +72,7 @@ def tell_live(desk, s, g, x):
     check_settings(desk, s, g)
     check_sounding(desk, x)
     why = why_silent(desk, s, x)
-    return answer(1 if why[0] == 0 else 0, [], why)
+    return answer(1 if why[0] == LIVE else 0, [], why)
 
 
 def tell_gain(desk, s, g, x):
@@ -127,6 +127,23 @@ def checked_timing(desk, x):
 def tell_wait(desk, i):
     check_send(desk, i)
     return answer(wait_of(Timing(desk), desk.sends[i]), [], [])
+
+
+def tell_last(desk, o):
+    check_node(desk, o)
+    check_kind(desk, o, (OUT,))
+    return answer(last_wait(Timing(desk), o), [], [])
+
+
+def tell_long(desk, nodes):
+    if not is_way(desk, nodes):
+        raise Unfit()
+    return answer(length_with_waits(Timing(desk), nodes), [], [])
+
+
+def tell_slow(desk, x):
+    nodes = slow_ways(checked_timing(desk, x), x)[0]
+    return answer(len(nodes), [], nodes)
 
 
 def answer(number, told_bytes, told_numbers):

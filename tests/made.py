@@ -17,7 +17,7 @@ class Made:
     def __init__(self, seed, lengths=(1, 2, 3), most=MOST):
         self.random = random.Random(seed)
         self.kinds = [kind for kind in range(4) for _ in range(self.random.randint(0, most[kind]))]
-        self.random.shuffle(self.kinds)
+        self.disorder()
         self.names = self.make_names(lengths)
         self.safe = [0] * len(self.kinds)
         self.late = [0] * len(self.kinds)
@@ -26,6 +26,13 @@ class Made:
         nodes = [f"{KIND_WORDS[kind]} {called}" for kind, called in zip(self.kinds, self.names)]
         self.text = "".join(line + "\n" for line in nodes + self.make_settings())
         self.bytes = as_bytes(self.text)
+
+    def disorder(self):
+        """Puts groups anywhere, and the others so that mostly there can be many sends: ins before buses before outs."""
+        spread = self.random.choice((1, 2, 2, 20))
+        places = [self.random.random() * spread + (kind if kind != GROUP else 3 * self.random.random())
+                  for kind in self.kinds]
+        self.kinds = [kind for _, kind in sorted(zip(places, self.kinds))]
 
     def make_names(self, lengths):
         names = []
@@ -47,7 +54,8 @@ class Made:
 
     def make_sends(self):
         pairs = [(a, b) for a in self.of_kinds(IN, BUS) for b in self.of_kinds(BUS, OUT) if a < b]
-        chosen = self.random.sample(pairs, self.random.randint(0, min(48, len(pairs))))
+        most = min(48, len(pairs))
+        chosen = self.random.sample(pairs, max(self.random.randint(0, most), self.random.randint(0, most)))
         return [(a, b, self.make_gain(), self.random.randint(0, 1)) for a, b in chosen]
 
     def make_gain(self):

@@ -31,6 +31,13 @@ OUT_WORDS = (
     r"\b(type|typing|typing_extensions|enum|Enum|IntEnum|StrEnum|Flag|IntFlag|Generic|Protocol|ABC|ABCMeta|namedtuple"
     r"|NamedTuple|TypedDict|TYPE_CHECKING|abstractmethod)\b|dataclass|overload|contextmanager"
 )
+METHODS = set(
+    "append clear copy count endswith extend find get index insert isalnum isalpha isdigit islower isspace isupper items "
+    "join keys ljust lower lstrip partition pop remove replace reverse rfind rjust rpartition rsplit rstrip setdefault "
+    "split splitlines startswith strip update upper values zfill bit_length __init__".split()
+)
+WALKED_AT_ONCE = ("zip", "enumerate", "reversed", "range")
+WALKERS = ("list", "tuple", "dict", "sorted", "sum", "any", "all", "enumerate", "zip", "min", "max")
 METHODS_OF_TWO = ("__init__", "__eq__", "__repr__", "__str__", "__len__")
 
 
@@ -54,6 +61,12 @@ def bound_names(part):
     if isinstance(part, ast.ExceptHandler) and part.name:
         return [part.name]
     return []
+
+
+def defined_names(tree):
+    """What a file's top itself gives a name to."""
+    names = [part.name for part in tree.body if isinstance(part, (ast.FunctionDef, ast.ClassDef))]
+    return names + [part.targets[0].id for part in tree.body if isinstance(part, ast.Assign)]
 
 
 class FormTest(unittest.TestCase):
@@ -130,6 +143,63 @@ class FormTest(unittest.TestCase):
                 self.assertEqual(0, part.level, file)
                 self.assertRegex(part.module, r"^mixdesks\.[a-z]+$", file)
                 self.assertNotIn("*", [alias.name for alias in part.names], file)
+
+    def test_names_come_from_the_file_that_defines_them_and_files_go_one_way(self):
+        trees = {path.stem: ast.parse(source) for path, source in sources()}
+        drawn = {file: set() for file in trees}
+        for file, tree in trees.items():
+            for part in tree.body:
+                if isinstance(part, ast.ImportFrom):
+                    other = part.module.split(".")[1]
+                    drawn[file].add(other)
+                    for alias in part.names:
+                        self.assertIn(alias.name, defined_names(trees[other]), (file, other))
+        while drawn:
+            ended = [file for file in drawn if not drawn[file] & set(drawn)]
+            self.assertNotEqual([], ended, f"these draw from one another: {sorted(drawn)}")
+            drawn = {file: others for file, others in drawn.items() if file not in ended}
+
+    def test_locals_are_not_called_like_imports_or_classes(self):
+        for path, source in sources():
+            tree = ast.parse(source)
+            taken = [alias.name for part in tree.body if isinstance(part, ast.ImportFrom) for alias in part.names]
+            taken += [part.name for part in tree.body if isinstance(part, ast.ClassDef)]
+            for function in ast.walk(tree):
+                if isinstance(function, ast.FunctionDef):
+                    bound = [name for part in ast.walk(function) for name in bound_names(part)]
+                    self.assertEqual(set(), set(bound) & set(taken), (path.name, function.name))
+
+    def test_methods(self):
+        own = {part.name for _, part in walked() if isinstance(part, ast.FunctionDef)}
+        for file, part in walked():
+            if isinstance(part, ast.Call) and isinstance(part.func, ast.Attribute):
+                self.assertIn(part.func.attr, METHODS | own, (file, part.lineno))
+
+    def test_no_name_is_a_method_here_and_a_value_there(self):
+        classes = [part for _, part in walked() if isinstance(part, ast.ClassDef)]
+        methods = {part.name for each in classes for part in each.body}
+        values = {part.attr for _, part in walked() if isinstance(part, ast.Attribute) and isinstance(part.ctx, ast.Store)}
+        self.assertEqual(set(), methods & values)
+        pythons = set().union(*(dir(kind) for kind in (str, int, list, dict, set, bytes)))
+        self.assertEqual({"__init__"}, (methods | values) & pythons)
+
+    def test_is_stands_beside_none_true_and_false(self):
+        for file, part in walked():
+            if isinstance(part, ast.Compare) and isinstance(part.ops[0], (ast.Is, ast.IsNot)):
+                self.assertIn(getattr(part.comparators[0], "value", 0), (None, True, False), (file, part.lineno))
+
+    def test_what_is_walked_is_walked_at_once(self):
+        for path, source in sources():
+            tree = ast.parse(source)
+            at_once = []
+            for part in ast.walk(tree):
+                if isinstance(part, (ast.For, ast.comprehension)):
+                    at_once.append(part.iter)
+                if isinstance(part, ast.Call) and isinstance(part.func, ast.Name) and part.func.id in WALKERS:
+                    at_once.append(part.args[0])
+            for part in ast.walk(tree):
+                if isinstance(part, ast.Name) and part.id in WALKED_AT_ONCE:
+                    self.assertIn(part, [getattr(walk, "func", None) for walk in at_once], (path.name, part.lineno))
 
 
 if __name__ == "__main__":

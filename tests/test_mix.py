@@ -1,10 +1,10 @@
 import random
 import unittest
 
-from mixdesks.hall import heard, live, mix
+from mixdesks.hall import mix
 from tests.desks import LEAST_SIGNED, MOST_NUMBER, MOST_SIGNED, UNIT, HallCase, as_bytes, crowded_desk
 from tests.desks import numbers_by_name, text_of_length
-from tests.made import IN, OUT, Made
+from tests.made import Made
 from tests.reference import LEAST, MOST, Reference, hold, pick_samples, pick_settings
 
 # k is a group of b; c takes a's sum and what b gives.
@@ -174,59 +174,6 @@ class MixTest(HallCase):
     def test_text_is_refused_first(self):
         handed = [([], []), ([0] * 24, [0] * 8), ([MOST_NUMBER] * 24, [0]), ([4], [1])]
         self.check_text_refusals(lambda t, pair: self.answer(mix, t, pair[0], pair[0], pair[1]), handed)
-
-
-class PromisesOfLevelsTest(HallCase):
-    """What the document promises of solos, of greater ins, and of an in that isn't heard, on made desks."""
-
-    def made_desks(self, count):
-        for seed in range(count):
-            made = Made(1000 + seed, most=(5, 6, 3, 2))
-            chance = random.Random(seed)
-            s, g = pick_settings(made, chance)
-            yield made, s, g, chance
-
-    def live_nodes(self, made, s, g):
-        return [x for x in made.others() if self.answer(live, x, made.bytes, s, g)[0] == 1]
-
-    def test_without_solos_just_what_is_muted_is_not_live(self):
-        for made, s, g, _ in self.made_desks(40):
-            s = [switch & 1 for switch in s]
-            reference = Reference(made, s, g)
-            wanted = [x for x in made.others() if not reference.is_muted(x)]
-            self.assertEqual(wanted, self.live_nodes(made, s, g))
-
-    def test_one_more_solo_makes_nobody_silent(self):
-        for made, s, g, chance in self.made_desks(60):
-            if not Reference(made, s, g).soloed:
-                continue
-            before = self.live_nodes(made, s, g)
-            x = chance.randrange(len(s))
-            more = s[:x] + [s[x] | 2] + s[x + 1:]
-            self.assertLessEqual(set(before), set(self.live_nodes(made, more, g)))
-
-    def test_greater_ins_make_nothing_less(self):
-        for made, s, g, chance in self.made_desks(100):
-            ins = pick_samples(made, chance)
-            greater = [min(MOST_SIGNED, sample + chance.choice((0, 1, 9999, 2**62))) for sample in ins]
-            less = self.answer(mix, made.bytes, s, g, ins)
-            more = self.answer(mix, made.bytes, s, g, greater)
-            self.assertTrue(all(a <= b for a, b in zip(less, more)), (made.text, s, g, ins, greater))
-
-    def test_an_in_that_is_not_heard_changes_nothing_there(self):
-        told_unheard = 0
-        for made, s, g, chance in self.made_desks(60):
-            ins = pick_samples(made, chance)
-            before = self.answer(mix, made.bytes, s, g, ins)
-            for place, a in enumerate(made.of_kinds(IN)):
-                other = ins[:place] + [chance.choice((LEAST, MOST))] + ins[place + 1:]
-                after = self.answer(mix, made.bytes, s, g, other)
-                for o in made.of_kinds(OUT):
-                    if self.answer(heard, a, o, made.bytes, s, g) == [0, 0, 0]:
-                        told_unheard += 1
-                        given = 3 + len(s) + o
-                        self.assertEqual(before[given], after[given], (made.text, s, g, ins, a, o))
-        self.assertGreater(told_unheard, 50)
 
 
 if __name__ == "__main__":
